@@ -1,0 +1,1 @@
+"""Open queueing networks with product form, computed in exact fractions."""

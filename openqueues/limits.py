@@ -1,0 +1,17 @@
+"""The codes of refusals, the kinds of stations and the ends of the ranges."""
+
+NO_INSTANCE = -11
+NO_SUCH_PLACE = -2
+OUT_OF_RANGE = -22
+NO_RESULT = -33
+
+IN_ORDER_OF_ARRIVAL = 0
+LAST_KIND = 3
+
+MOST_STATIONS = 5
+MOST_CLASSES = 3
+MOST_SERVERS = 20
+MOST_SERVICE = 100000
+MOST_ARRIVAL = 100000
+MOST_WEIGHT = 1000
+MOST_FACTOR = 1000
