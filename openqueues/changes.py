@@ -11,6 +11,12 @@ def most_servers(kind):
     return 1
 
 
+def exchange(values, place, value):
+    old_value = values[place]
+    values[place] = value
+    return [old_value]
+
+
 def set_station(network, given):
     station, kind, servers = given
     if not network.has_station(station):
@@ -46,10 +52,7 @@ def set_arrival(network, given):
         return [NO_SUCH_PLACE]
     if arrival > MOST_ARRIVAL:
         return [OUT_OF_RANGE]
-    place = network.place_of(station, customer_class)
-    old_arrival = network.arrival_rates[place]
-    network.arrival_rates[place] = arrival
-    return [old_arrival]
+    return exchange(network.arrival_rates, network.place_of(station, customer_class), arrival)
 
 
 def set_route(network, given):
@@ -59,10 +62,7 @@ def set_route(network, given):
     if weight > MOST_WEIGHT:
         return [OUT_OF_RANGE]
     weights = network.route_weights[network.place_of(station, customer_class)]
-    to_place = network.place_of(to_station, to_class)
-    old_weight = weights[to_place]
-    weights[to_place] = weight
-    return [old_weight]
+    return exchange(weights, network.place_of(to_station, to_class), weight)
 
 
 def set_leaving(network, given):
@@ -71,10 +71,7 @@ def set_leaving(network, given):
         return [NO_SUCH_PLACE]
     if weight > MOST_WEIGHT:
         return [OUT_OF_RANGE]
-    place = network.place_of(station, customer_class)
-    old_weight = network.leaving_weights[place]
-    network.leaving_weights[place] = weight
-    return [old_weight]
+    return exchange(network.leaving_weights, network.place_of(station, customer_class), weight)
 
 
 def clear_routes(network, given):
@@ -88,7 +85,7 @@ def clear_routes(network, given):
     return [old_sum]
 
 
-# All rates are held against the greatest one before any is asked whether it stays whole.
+# A rate that is too great is answered ahead of one that is not whole, at whatever places they are.
 def scale_arrivals(network, given):
     num, den = given
     if num > MOST_FACTOR or den < 1 or den > MOST_FACTOR:
