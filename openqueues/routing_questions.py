@@ -1,16 +1,9 @@
 """The operations 8 to 12, which ask for what follows from the routing."""
 
+from openqueues.forms import counted_fractions, lone_fraction, one_or_zero
 from openqueues.limits import NO_RESULT, NO_SUCH_PLACE
 from openqueues.routing import all_can_get_out, probability_to_go, probability_to_leave
 from openqueues.routing import traffic_rates, visits_from
-
-
-def counted_fractions(fractions):
-    answer = [len(fractions)]
-    for top, bottom in fractions:
-        answer.append(top)
-        answer.append(bottom)
-    return answer
 
 
 def route_probability(network, given):
@@ -18,22 +11,18 @@ def route_probability(network, given):
     if not network.has_place(station, customer_class) or not network.has_place(to_station, to_class):
         return [NO_SUCH_PLACE]
     place = network.place_of(station, customer_class)
-    top, bottom = probability_to_go(network, place, network.place_of(to_station, to_class))
-    return [0, top, bottom]
+    return lone_fraction(probability_to_go(network, place, network.place_of(to_station, to_class)))
 
 
 def leave_probability(network, given):
     station, customer_class = given
     if not network.has_place(station, customer_class):
         return [NO_SUCH_PLACE]
-    top, bottom = probability_to_leave(network, network.place_of(station, customer_class))
-    return [0, top, bottom]
+    return lone_fraction(probability_to_leave(network, network.place_of(station, customer_class)))
 
 
 def is_open(network, given):
-    if all_can_get_out(network):
-        return [1]
-    return [0]
+    return [one_or_zero(all_can_get_out(network))]
 
 
 def traffic(network, given):

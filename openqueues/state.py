@@ -24,6 +24,9 @@ class Network:
     def place_of(self, station, customer_class):
         return customer_class * self.station_count + station
 
+    def station_of(self, place):
+        return place % self.station_count
+
     def set_all_services(self, station, service):
         for customer_class in range(self.class_count):
             self.service_rates[self.place_of(station, customer_class)] = service

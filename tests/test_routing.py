@@ -4,7 +4,7 @@ import math
 import unittest
 from fractions import Fraction
 
-from helper import PLACES, SAMPLE, Drawn, ask, last
+from helper import PLACES, SAMPLE, Plan, ask, drawn_plan, fractions_of, last
 
 
 class Probabilities(unittest.TestCase):
@@ -126,72 +126,6 @@ class IsOpen(unittest.TestCase):
                 self.assertEqual(self.opened(*calls, closing, ("set_leaving", *order[7], 1)), 1)
 
 
-def fractions_of(answer):
-    """The fractions of an answer with a count, each of which has to be in lowest terms."""
-    if len(answer) != 1 + 2 * answer[0]:
-        raise ValueError("the count is wrong")
-    pairs = list(zip(answer[1::2], answer[2::2]))
-    for top, bottom in pairs:
-        if bottom < 1 or math.gcd(top, bottom) != 1:
-            raise ValueError("not in lowest terms")
-    return [Fraction(top, bottom) for top, bottom in pairs]
-
-
-class Plan:
-    """A network that the tests know by themselves: places are numbered in their order."""
-
-    def __init__(self, stations, classes, arrivals, routes, leavings):
-        self.places = [(station, number) for number in range(classes) for station in range(stations)]
-        self.size = (stations, classes)
-        self.arrivals = arrivals
-        self.routes = routes
-        self.leavings = leavings
-
-    def calls(self):
-        found = [("create", *self.size)]
-        for place, rate in self.arrivals.items():
-            found.append(("set_arrival", *self.places[place], rate))
-        for (place, other), weight in self.routes.items():
-            found.append(("set_route", *self.places[place], *self.places[other], weight))
-        for place, weight in self.leavings.items():
-            found.append(("set_leaving", *self.places[place], weight))
-        return found
-
-    def total(self, place):
-        return self.leavings.get(place, 0) + sum(
-            weight for (start, end), weight in self.routes.items() if start == place)
-
-    def going(self, place, other):
-        weight = self.routes.get((place, other), 0)
-        return Fraction(weight, self.total(place)) if weight else Fraction(0)
-
-    def going_out(self, place):
-        total = self.total(place)
-        return Fraction(self.leavings.get(place, 0), total) if total else Fraction(1)
-
-
-def drawn_plan(seed, stations, classes, most_routes):
-    drawn = Drawn(seed)
-    count = stations * classes
-    arrivals = {drawn.below(count): drawn.below(100001) for number in range(4)}
-    routes = {}
-    for number in range(drawn.below(most_routes + 1)):
-        routes[(drawn.below(count), drawn.below(count))] = 1 + drawn.below(1000)
-    leavings = {drawn.below(count): 1 + drawn.below(1000) for number in range(drawn.below(count + 1))}
-    return Plan(stations, classes, arrivals, routes, leavings)
-
-
-def is_plan_open(plan):
-    """By powers of the step, so as not to ask as the program does."""
-    count = len(plan.places)
-    inside = [1 if plan.going_out(place) == 0 else 0 for place in range(count)]
-    for step in range(count):
-        inside = [1 if plan.going_out(place) == 0 and all(
-            inside[other] for other in range(count) if plan.going(place, other) > 0) else 0
-            for place in range(count)]
-    return not any(inside)
-
-
 SIZES = [(1, 1, 2), (2, 1, 4), (1, 3, 6), (2, 2, 8), (3, 2, 12), (5, 1, 12), (4, 3, 25), (5, 3, 25)]
 
 
@@ -212,7 +146,7 @@ class Rates(unittest.TestCase):
             plan = drawn_plan(seed, *SIZES[seed % len(SIZES)])
             start = seed % len(plan.places)
             found = ask(plan.calls() + [("is_open",), ("traffic",), ("visits", *plan.places[start])])[-3:]
-            opened = is_plan_open(plan)
+            opened = plan.is_open()
             seen[opened] += 1
             with self.subTest(seed=seed):
                 self.assertEqual(found[0], [1 if opened else 0])
