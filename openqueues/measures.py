@@ -35,12 +35,12 @@ def visit_times(flow):
 
 # At each kind of station the number of a place is its rate times its visit time.
 def place_numbers(flow):
-    return [times(rate, time) for rate, time in zip(flow.place_rates, visit_times(flow))]
+    return [times(rate, spent) for rate, spent in zip(flow.place_rates, visit_times(flow))]
 
 
 def time_from_place(flow, start):
-    return total([times(visits, time)
-                  for visits, time in zip(visits_from(flow.network, start), visit_times(flow))])
+    return total([times(visits, spent)
+                  for visits, spent in zip(visits_from(flow.network, start), visit_times(flow))])
 
 
 # For a station that is not one with a server for everybody.

@@ -163,6 +163,8 @@ class Language(unittest.TestCase):
                 self.assertLessEqual(len(node.generators[0].ifs), 1, where)
             if isinstance(node, ast.BinOp):
                 self.assertNotIsInstance(node.op, (ast.Div, ast.MatMult), where)
+            if isinstance(node, ast.BinOp) and isinstance(node.op, ast.Pow):
+                self.assertIn(getattr(node.right, "value", None), range(65), where)
             if isinstance(node, ast.Constant):
                 self.assertNotIsInstance(node.value, (float, complex, bytes), where)
             if isinstance(node, ast.Compare) and any(isinstance(op, (ast.Is, ast.IsNot)) for op in node.ops):
@@ -211,6 +213,45 @@ class Language(unittest.TestCase):
         for where, node in self.each():
             if isinstance(node, ast.Call) and isinstance(node.func, ast.Attribute):
                 self.assertIn(node.func.attr, own | METHODS_OF_PYTHON, where)
+
+    def test_the_lists_of_a_file_s_top_are_only_read(self):
+        kept = {}
+        for stem, tree in self.trees.items():
+            kept[stem] = {node.targets[0].id for node in tree.body if isinstance(node, ast.Assign)
+                          and isinstance(node.value, (ast.List, ast.Tuple, ast.Dict))}
+        for stem, tree in self.trees.items():
+            names = kept[stem] | {alias.name for node in tree.body if isinstance(node, ast.ImportFrom)
+                                  for alias in node.names if alias.name in kept[node.module.split(".")[1]]}
+            read = [node.value for node in ast.walk(tree)
+                    if isinstance(node, ast.Subscript) and isinstance(node.ctx, ast.Load)]
+            read += [node.iter for node in ast.walk(tree) if isinstance(node, (ast.For, ast.comprehension))]
+            for node in ast.walk(tree):
+                if isinstance(node, ast.Name) and isinstance(node.ctx, ast.Load) and node.id in names:
+                    self.assertTrue(any(node is other for other in read), f"{stem}:{node.lineno} {node.id}")
+
+    def test_python_s_own_are_called_where_they_stand(self):
+        for stem, tree in self.trees.items():
+            called = [node.func for node in ast.walk(tree) if isinstance(node, ast.Call)]
+            for node in ast.walk(tree):
+                if isinstance(node, ast.Name) and node.id in OWN_OF_PYTHON:
+                    self.assertTrue(any(node is other for other in called), f"{stem}:{node.lineno} {node.id}")
+                if isinstance(node, ast.Call):
+                    self.assertEqual([word.arg for word in node.keywords], [], f"{stem}:{node.lineno}")
+
+    def test_what_is_walked_at_once(self):
+        for where, node in self.each():
+            for part in ast.iter_child_nodes(node):
+                if isinstance(part, ast.Call) and isinstance(part.func, ast.Name) and (
+                        part.func.id in ("zip", "enumerate", "reversed", "range")):
+                    walked = isinstance(node, (ast.For, ast.comprehension)) or (
+                        isinstance(node, ast.Call) and node.args[0] is part and node.func.id in (
+                            "list", "tuple", "dict", "sorted", "sum", "any", "all", "enumerate", "zip", "min", "max"))
+                    self.assertTrue(walked, where)
+
+    def test_lambdas_stand_on_lines_of_their_own(self):
+        for stem, tree in self.trees.items():
+            rows = [node.lineno for node in ast.walk(tree) if isinstance(node, ast.Lambda)]
+            self.assertEqual(len(rows), len(set(rows)), stem)
 
     def test_the_texts(self):
         for path in self.paths:
